@@ -54,11 +54,8 @@ func (r *reader) begin(text string) {
 	if len(text) > api.MaxEngine {
 		r.giveUp(api.ErrEngineLong)
 	}
+	// Nothing behind the last line feed is no line; as one without words it does no harm.
 	r.lines = strings.Split(text, "\n")
-	// What stands behind the last line feed is a line only if it has a byte.
-	if last := len(r.lines) - 1; r.lines[last] == "" {
-		r.lines = r.lines[:last]
-	}
 }
 
 func (r *reader) readAll() {
